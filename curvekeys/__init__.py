@@ -1,0 +1,1 @@
+"""Keys and signatures on the curve P-256."""
