@@ -1,10 +1,12 @@
-"""SHA-256 sums and public keys on the curve P-256.
+"""SHA-256 sums, public keys and signatures on the curve P-256.
 
 Each call takes whole numbers and lists of bytes and answers one list: a number, then bytes.
 A refusal is its number alone.
 """
 
 LONGEST = 16777216
+
+TRIES = 256
 
 MASK = 0xFFFFFFFF
 
@@ -25,6 +27,7 @@ ROUND_NUMBERS = (
 
 P = 0xFFFFFFFF00000001000000000000000000000000FFFFFFFFFFFFFFFFFFFFFFFF
 Q = 0xFFFFFFFF00000000FFFFFFFFFFFFFFFFBCE6FAADA7179E84F3B9CAC2FC632551
+B = 0x5AC635D8AA3A93E7B3EBBD55769886BC651D06B0CC53B0F63BCE3C3E27D2604B
 G = (
     0x6B17D1F2E12C4247F8BCE6E563A440F277037D812DEB33A0F4A13945D898C296,
     0x4FE342E2FE1A7F9B8EE7EB4A7C0F9E162BCE33576B315ECECBB6406837BF51F5,
@@ -101,6 +104,12 @@ def sha256(message):
     return answer
 
 
+def hmac(key, message):
+    widened = key + [0] * 32
+    inner = sha256([byte ^ 54 for byte in widened] + message)
+    return sha256([byte ^ 92 for byte in widened] + inner)
+
+
 # By Euclid's steps, each of which keeps factor * number equal to rest modulo the prime.
 def inverse(number, prime):
     rest = number % prime
@@ -155,12 +164,70 @@ def is_length(n):
     return 0 <= n and n <= LONGEST
 
 
-def is_secret(d):
-    return 1 <= d and d < Q
+# From 1 to q - 1, as a secret has to be, and r, s and c of a signature.
+def is_scalar(number):
+    return 1 <= number and number < Q
+
+
+def is_on_curve(x, y):
+    return x < P and y < P and (y * y - x * x * x + 3 * x - B) % P == 0
 
 
 def public_bytes(point):
     return [4] + bytes_from_number(point[0], 32) + bytes_from_number(point[1], 32)
+
+
+# None here is no public key: the point far away has no such bytes.
+def point_of_public(public):
+    x = number_from_bytes(public[1:33])
+    y = number_from_bytes(public[33:])
+    if public[0] != 4 or not is_on_curve(x, y):
+        return None
+    return (x, y)
+
+
+# The document's K and V, as they stand ahead of the first try.
+def first_key_and_value(d, e):
+    z = bytes_from_number(d, 32) + bytes_from_number(e % Q, 32)
+    value = [1] * 32
+    key = hmac([0] * 32, value + [0] + z)
+    value = hmac(key, value)
+    key = hmac(key, value + [1] + z)
+    return (key, hmac(key, value))
+
+
+# None if c makes no signature, so that another has to be tried.
+def signature_by(c, d, e):
+    if not is_scalar(c):
+        return None
+    r = point_times(c, G)[0] % Q
+    s = (e + r * d) * inverse(c, Q) % Q
+    if r == 0 or s == 0:
+        return None
+    return bytes_from_number(r, 32) + bytes_from_number(s, 32)
+
+
+# None if it's given up.
+def signature_of(d, e):
+    first = first_key_and_value(d, e)
+    key = first[0]
+    value = first[1]
+    for attempt in range(TRIES):
+        value = hmac(key, value)
+        signature = signature_by(number_from_bytes(value), d, e)
+        if signature is not None:
+            return signature
+        key = hmac(key, value + [0])
+        value = hmac(key, value)
+    return None
+
+
+def is_right(point, e, r, s):
+    if not is_scalar(r) or not is_scalar(s):
+        return False
+    by_s = inverse(s, Q)
+    total = points_added(point_times(e * by_s % Q, G), point_times(r * by_s % Q, point))
+    return total is not None and total[0] % Q == r
 
 
 def p2_sum(n, m):
@@ -171,6 +238,32 @@ def p2_sum(n, m):
 
 def p2_public(secret):
     d = number_from_bytes(secret)
-    if not is_secret(d):
+    if not is_scalar(d):
         return [-2]
     return [0] + public_bytes(point_times(d, G))
+
+
+def p2_sign(n, secret, m):
+    if not is_length(n):
+        return [-1]
+    d = number_from_bytes(secret)
+    if not is_scalar(d):
+        return [-2]
+    signature = signature_of(d, number_from_bytes(sha256(m)))
+    if signature is None:
+        return [-4]
+    return [0] + signature
+
+
+def p2_check(n, public, m, signature):
+    if not is_length(n):
+        return [-1]
+    point = point_of_public(public)
+    if point is None:
+        return [-3]
+    e = number_from_bytes(sha256(m))
+    r = number_from_bytes(signature[:32])
+    s = number_from_bytes(signature[32:])
+    if is_right(point, e, r, s):
+        return [1]
+    return [0]

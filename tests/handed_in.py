@@ -1,4 +1,4 @@
-"""What several tests share: lists that can't be changed, bytes of a number, the form of an answer."""
+"""What several tests share: lists that can't be changed, bytes and messages, the form of an answer."""
 
 
 def refuse(self, *values, **named):
@@ -18,6 +18,14 @@ def bytes_of(number):
 
 def bytes_of_hex(text):
     return list(bytes.fromhex(text))
+
+
+def text(words):
+    return list(words.encode("ascii"))
+
+
+def message(n):
+    return [(i * i * 7 + i * 31 + n) % 256 for i in range(n)]
 
 
 def check_form(case, answer, count):

@@ -5,7 +5,7 @@ import unittest
 
 from curvekeys import keys
 from curvekeys.keys import p2_sum
-from handed_in import bytes_of_hex, check_apart, check_form
+from handed_in import bytes_of_hex, check_apart, check_form, message, text
 
 # From FIPS 180 and its examples.
 KNOWN = (
@@ -18,18 +18,14 @@ KNOWN = (
 )
 
 
-def message(n):
-    return [(i * i * 7 + i * 31 + n) % 256 for i in range(n)]
-
-
 class SumTest(unittest.TestCase):
     def check_message(self, m):
         expected = [0] + list(hashlib.sha256(bytes(m)).digest())
         self.assertEqual(p2_sum(len(m), m), expected, len(m))
 
     def test_known_sums(self):
-        for text, digest in KNOWN:
-            m = list(text.encode("ascii"))
+        for words, digest in KNOWN:
+            m = text(words)
             self.assertEqual(p2_sum(len(m), m), [0] + bytes_of_hex(digest))
 
     def test_every_length_around_the_filling(self):
