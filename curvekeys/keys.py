@@ -1,4 +1,4 @@
-"""SHA-256 sums, public keys and signatures on the curve P-256.
+"""SHA-256 sums, keys, signatures and shared secrets on the curve P-256.
 
 Each call takes whole numbers and lists of bytes and answers one list: a number, then bytes.
 A refusal is its number alone.
@@ -177,6 +177,10 @@ def public_bytes(point):
     return [4] + bytes_from_number(point[0], 32) + bytes_from_number(point[1], 32)
 
 
+def short_bytes(point):
+    return [2 + point[1] % 2] + bytes_from_number(point[0], 32)
+
+
 # None here is no public key: the point far away has no such bytes.
 def point_of_public(public):
     x = number_from_bytes(public[1:33])
@@ -267,3 +271,22 @@ def p2_check(n, public, m, signature):
     if is_right(point, e, r, s):
         return [1]
     return [0]
+
+
+def p2_shared(secret, public):
+    d = number_from_bytes(secret)
+    if not is_scalar(d):
+        return [-2]
+    point = point_of_public(public)
+    if point is None:
+        return [-3]
+    # Never far away: only a multiple of q brings a point of this curve there.
+    shared = point_times(d, point)
+    return [0] + bytes_from_number(shared[0], 32)
+
+
+def p2_short(public):
+    point = point_of_public(public)
+    if point is None:
+        return [-3]
+    return [0] + short_bytes(point)

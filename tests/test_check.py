@@ -6,19 +6,12 @@ from unittest import mock
 from curvekeys import keys
 from curvekeys.keys import p2_check, p2_public, p2_sign, p2_sum
 from handed_in import bytes_of, bytes_of_hex, check_apart, check_form, message, text
+from known_points import P, Q, SMALL_X, SMALL_Y, not_on_the_curve, number, public_of
 from known_signatures import KNOWN, SAMPLE
-
-P = 0xFFFFFFFF00000001000000000000000000000000FFFFFFFFFFFFFFFFFFFFFFFF
-Q = 0xFFFFFFFF00000000FFFFFFFFFFFFFFFFBCE6FAADA7179E84F3B9CAC2FC632551
 
 NO_LENGTHS = (-1, -2, -2147483648, 16777217, 16777218, 2147483647)
 
 ABC = text("abc")
-
-
-def number(digits):
-    return int(digits, 16)
-
 
 # Public keys and signatures of "abc" as x, y, r, s, each made for an edge; OpenSSL was asked of them too.
 # e / s times G and r / s times the public key's point are one and the same.
@@ -52,22 +45,6 @@ S_IS_1 = tuple(map(number, (
     "0EBE54617F06CFAC809CCD9BFA9DEB6F46E4ABA6161767BDBEEDC2B8FA6EBF6B",
     "F9EBE464147CC102D92324D099D927C1A50E42D57A08A116FFEC0A29819D8C65",
     "0000000000000000000000000000000000000000000000000000000000000001")))
-
-# Points whose x or y stays within 32 bytes with p added.
-SMALL_X = (
-    (0, number("66485C780E2F83D72433BD5D84A06BB6541C2AF31DAE871728BF856A174F93F4")),
-    (5, number("459243B9AA581806FE913BCE99817ADE11CA503C64D9A3C533415C083248FBCC")),
-    (6, number("36B24C2C54250AC2466985E533720047DCD102B80FE7C0E9220D5128828223CB")),
-)
-SMALL_Y = (
-    (number("D7325D7646CD60D80A92738CEB345F844CFFAF35841022CAB176F692DE8DE1D7"), 5),
-    (number("9B21C2DE1DA31D68731DBDAF97D7AB3F979131E28E3DC5B2077D5A7187914A78"), 6),
-    (number("B2ED6EACBC9F7DA8564D94B7E4DF51FCCFFA296DC6693E4FD7ACCEAED56AC453"), 7),
-)
-
-
-def public_of(x, y):
-    return [4] + bytes_of(x) + bytes_of(y)
 
 
 def check_abc(x, y, r, s):
@@ -203,11 +180,7 @@ class NoPublicTest(unittest.TestCase):
             self.assertEqual(self.answer(public_of(x, y + P)), [-3], y)
 
     def test_not_on_the_curve(self):
-        x = self.x
-        y = self.y
-        for one, other in ((0, 0), (1, 1), (0, 1), (x, 0), (0, y), (y, x), (x + 1, y), (x - 1, y), (x, y + 1),
-                           (x, y - 1), (x, P - y - 1), (P - x, y), (P - 1, P - 1), (P, P), (x, P), (P, y),
-                           (2 ** 256 - 1, 2 ** 256 - 1), (x, 2 ** 256 - 1), (2 ** 256 - 1, y)):
+        for one, other in not_on_the_curve(self.x, self.y):
             self.assertEqual(self.answer(public_of(one, other)), [-3], (one, other))
 
     def test_each_byte_changed(self):

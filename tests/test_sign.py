@@ -9,13 +9,10 @@ from unittest import mock
 from curvekeys import keys
 from curvekeys.keys import p2_public, p2_sign, p2_sum
 from handed_in import bytes_of, bytes_of_hex, check_apart, check_form, message, text
+from known_points import NO_SECRETS, P, Q
 from known_signatures import KNOWN, LARGE_SUM, OTHERS, SAMPLE, SECOND_TRY
 
-P = 0xFFFFFFFF00000001000000000000000000000000FFFFFFFFFFFFFFFFFFFFFFFF
-Q = 0xFFFFFFFF00000000FFFFFFFFFFFFFFFFBCE6FAADA7179E84F3B9CAC2FC632551
-
 NO_LENGTHS = (-1, -2, -2147483648, 16777217, 16777218, 2147483647)
-NO_SECRETS = (0, Q, Q + 1, P - 1, P, 2 ** 256 - 1)
 
 
 def hmac_of(key, *parts):
