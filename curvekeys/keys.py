@@ -127,6 +127,19 @@ def inverse(number, prime):
     return factor_before % prime
 
 
+# A square root modulo p if there is one, else some number. It's this power as p + 1 is a multiple of 4.
+def root(number):
+    power = 1
+    square = number % P
+    left = (P + 1) // 4
+    while left > 0:
+        if left % 2 == 1:
+            power = power * square % P
+        square = square * square % P
+        left = left // 2
+    return power
+
+
 # None stands for the point far away, which has no x and y.
 def points_added(one, other):
     if one is None:
@@ -188,6 +201,17 @@ def point_of_public(public):
     if public[0] != 4 or not is_on_curve(x, y):
         return None
     return (x, y)
+
+
+# None if it's no point's short form. No point of this curve has a y of 0, so p - y is below p.
+def point_of_short(in_short):
+    x = number_from_bytes(in_short[1:])
+    y = root(x * x * x - 3 * x + B)
+    if in_short[0] not in (2, 3) or not is_on_curve(x, y):
+        return None
+    if y % 2 == in_short[0] % 2:
+        return (x, y)
+    return (x, P - y)
 
 
 # The document's K and V, as they stand ahead of the first try.
@@ -290,3 +314,10 @@ def p2_short(public):
     if point is None:
         return [-3]
     return [0] + short_bytes(point)
+
+
+def p2_long(in_short):
+    point = point_of_short(in_short)
+    if point is None:
+        return [-3]
+    return [0] + public_bytes(point)
